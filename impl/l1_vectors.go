@@ -83,6 +83,10 @@ func (a Vec) plus(b Vec) Vec {
 	return Vec{a.X + b.X, a.Y + b.Y}
 }
 
+func (a Vec) minus(b Vec) Vec {
+	return Vec{a.X - b.X, a.Y - b.Y}
+}
+
 func (a Vec) times(n int) Vec {
 	return Vec{a.X * n, a.Y * n}
 }
@@ -97,6 +101,11 @@ func (a Vec) product(b Vec) int {
 
 func (a Vec) turn() Vec {
 	return Vec{-a.Y, a.X}
+}
+
+// isPrimitive does not hold for 0, as the common divisor of 0 and 0 is 0.
+func (a Vec) isPrimitive() bool {
+	return commonDivisor(a.X, a.Y) == 1
 }
 
 // inSecondHalf reports whether the direction is met in the second half of the way round, which begins opposite to the start.
