@@ -57,9 +57,11 @@ func TestVectorOfDivisor(t *testing.T) {
 	for _, c := range [][]int{{0, 0, 0}, {1, 0, 5}, {0, 1, 0}, {200, -200, 3}, {-7, 60, 1}} {
 		for _, f := range []*fan{narrow, linked([]Vec{{0, 1}, {-1, -1}, {1, 0}})} {
 			d := divisor{f, c}
-			m := d.vector()
-			if m.product(f.first.ray) != c[0] || m.product(f.at(1).ray) != c[1] {
-				t.Errorf("the vector of %v is %v", c, m)
+			for i := range f.size {
+				m, l := d.vectorAt(i), f.at(i)
+				if m.product(l.ray) != c[i] || m.product(l.behind.ray) != c[(i+1)%f.size] {
+					t.Errorf("the vector of %v at %d is %v", c, i, m)
+				}
 			}
 			if plain := d.plain(); plain.coefs[0] != 0 || plain.coefs[1] != 0 || !d.minus(plain).isTrivial() {
 				t.Errorf("%v made plain is %v", c, plain.coefs)
