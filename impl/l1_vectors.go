@@ -108,6 +108,12 @@ func (a Vec) isPrimitive() bool {
 	return commonDivisor(a.X, a.Y) == 1
 }
 
+// primitive returns the primitive vector of which one that is not 0 is a multiple, and by which number.
+func (a Vec) primitive() (Vec, int) {
+	n := commonDivisor(a.X, a.Y)
+	return Vec{a.X / n, a.Y / n}, n
+}
+
 // inSecondHalf reports whether the direction is met in the second half of the way round, which begins opposite to the start.
 func (a Vec) inSecondHalf() bool {
 	return a.Y < 0 || a.Y == 0 && a.X < 0
@@ -120,6 +126,18 @@ func (a Vec) ahead(b Vec) bool {
 		return b.inSecondHalf()
 	}
 	return a.det(b) > 0
+}
+
+// rounds returns how often directions lead round, each of them less than half a turn behind the one ahead of it.
+// It counts where the way round begins again.
+func rounds(directions []Vec) int {
+	n := 0
+	for i, a := range directions {
+		if directions[(i+1)%len(directions)].ahead(a) {
+			n++
+		}
+	}
+	return n
 }
 
 func (m Mat) check() error {
@@ -195,8 +213,8 @@ func VecPrimitive(a Vec) (Vec, int, bool) {
 	if isNone(a.check()) || a == (Vec{}) {
 		return Vec{}, 0, false
 	}
-	n := commonDivisor(a.X, a.Y)
-	return Vec{a.X / n, a.Y / n}, n, true
+	b, n := a.primitive()
+	return b, n, true
 }
 
 // VecTurn returns the vector with the opposite Y as X, and X as Y, and true.

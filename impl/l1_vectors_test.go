@@ -37,3 +37,36 @@ func TestCommonDivisor(t *testing.T) {
 		}
 	}
 }
+
+func TestPrimitive(t *testing.T) {
+	cases := []struct {
+		a, due Vec
+		n      int
+	}{
+		{Vec{6, -4}, Vec{3, -2}, 2}, {Vec{0, -7}, Vec{0, -1}, 7}, {Vec{5, 0}, Vec{1, 0}, 5}, {Vec{-3, -3}, Vec{-1, -1}, 3}, {Vec{2, 3}, Vec{2, 3}, 1},
+	}
+	for _, c := range cases {
+		if got, n := c.a.primitive(); got != c.due || n != c.n {
+			t.Errorf("%v is %v times %d", c.a, got, n)
+		}
+	}
+}
+
+func TestRounds(t *testing.T) {
+	cases := []struct {
+		directions []Vec
+		due        int
+	}{
+		{nil, 0},
+		{[]Vec{{1, 0}, {0, 1}, {-1, -1}}, 1},
+		{[]Vec{{0, 2}, {-1, -1}, {2, 0}}, 1},
+		{[]Vec{{1, 1}, {-1, 1}, {-1, -1}, {1, -1}}, 1},
+		{[]Vec{{1, 0}, {-1, 1}, {0, -1}, {1, 1}, {-1, 0}, {1, -1}, {0, 1}, {-1, -1}}, 3},
+		{[]Vec{{1, 0}, {0, 1}, {-1, 0}, {0, -1}, {1, 0}, {0, 1}, {-1, 0}, {0, -1}}, 2},
+	}
+	for _, c := range cases {
+		if got := rounds(c.directions); got != c.due {
+			t.Errorf("%v lead round %d times", c.directions, got)
+		}
+	}
+}
